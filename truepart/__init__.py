@@ -1,0 +1,1 @@
+"""Truepart: solid parts whose names survive edits."""
