@@ -14,6 +14,17 @@ INTERFACE = {
     "expressions": [
         "is_parameter_name(text)", "read_expression(names, text)", "expression_text(names, found)", "is_short(found)"],
     "tokens": ["tokens(text)", "position(text, place)"],
+    "vectors": [
+        "dot(a, b)", "cross(a, b)", "volume(a, b, c)", "primitive(a)", "along(normal, point)", "plane_of(normal, offset)",
+        "parallel(a, b)"],
+    "planes": [
+        "dot(a, b)", "cross(a, b)", "triple(a, b, c)", "is_parallel(a, b)", "canonical(direction)", "divisor(direction)",
+        "plane(direction, offset)", "along(direction, point)", "side(wall, point)", "sides(walls, point)",
+        "independent(normals)", "meeting(first, second, third)"],
+    "origins": ["is_side_name(text)", "read_origin(text)", "origin_text(origin)"],
+    "nametexts": ["read_name(text)", "name_text(name)"],
+    "features": ["read_feature(names, text)"],
+    "writing": ["feature_text(names, feature)", "rewritten(names, text)", "spots(feature)", "side_names(feature)"],
     "areas": ["read_area(lines, text)", "area_text(area)", "area_holds(area, left)"],
 }
 

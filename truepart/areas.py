@@ -1,7 +1,6 @@
 """Areas: parts of a sketch that are told by the sides of its lines."""
 
 from truepart.readers import Reader
-from truepart.tokens import refuse
 
 MOST_AROUND = 20
 
@@ -14,7 +13,7 @@ SIGN_BETWEEN = {"either": " | ", "both": " & "}
 def read_factor(reader, lines, around):
     """The factor that comes next, with so many signs ! and brackets around it."""
     if around == MOST_AROUND and (reader.stands("sign", "!") or reader.stands("sign", "(")):
-        refuse(reader.text, reader.place())
+        reader.refuse_next()
     if reader.skip("sign", "!"):
         return ("not", read_factor(reader, lines, around + 1))
     if reader.skip("sign", "("):

@@ -21,6 +21,14 @@ class Reader:
         """The index at which the token begins that was taken last."""
         return self.row[self.at - 1][2]
 
+    def refuse_next(self):
+        """Tells that the next token is at fault, or missing."""
+        refuse(self.text, self.place())
+
+    def refuse_taken(self):
+        """Tells that the token is at fault that was taken last."""
+        refuse(self.text, self.taken_place())
+
     def stands(self, kind, content):
         """Whether the next token is this one."""
         return self.at < len(self.row) and self.row[self.at][:2] == (kind, content)
@@ -35,12 +43,12 @@ class Reader:
     def expect(self, kind, content):
         """Takes the next token, which must be this one."""
         if not self.skip(kind, content):
-            refuse(self.text, self.place())
+            self.refuse_next()
 
     def take(self, kind):
         """Takes the next token, which must be of this kind; returns its content."""
         if self.at == len(self.row) or self.row[self.at][0] != kind:
-            refuse(self.text, self.place())
+            self.refuse_next()
         self.at += 1
         return self.row[self.at - 1][1]
 
@@ -49,9 +57,9 @@ class Reader:
         for content in contents:
             if self.skip(kind, content):
                 return content
-        refuse(self.text, self.place())
+        self.refuse_next()
 
     def finish(self):
         """Refuses the next token if there is one."""
         if self.at < len(self.row):
-            refuse(self.text, self.place())
+            self.refuse_next()
