@@ -26,6 +26,31 @@ INTERFACE = {
     "features": ["read_feature(names, text)"],
     "writing": ["feature_text(names, feature)", "rewritten(names, text)", "spots(feature)", "side_names(feature)"],
     "areas": ["read_area(lines, text)", "area_text(area)", "area_holds(area, left)"],
+    "cells": [
+        "walls(low, high)", "is_inside(point, low, high)", "before(a, b)", "in_order(points)",
+        "vertices(planes, low, high)", "arrange(planes, low, high)", "dimension(signs, planes)",
+        "in_closure(small, large)", "centre(points)", "count_cells(planes, low, high)"],
+    "circuits": ["circuits(normals)", "form(circuit, offsets)", "vanishes(circuit, normals)"],
+    "constraints": ["solve(rows, many)", "meets(row, point)"],
+    "sketches": ["solve_sketch(lines, dimensions)"],
+    "tools": [
+        "sketch_tool(number, feature, base, ends)", "half_tool(number, feature, offset)",
+        "shifted_tool(number, k, tool, shift)", "mirrored_tool(number, k, tool, direction, at)", "spread(normal, point)"],
+    "bodies": [
+        "test_holds(test, sides, signs)", "after_tool(op, state, there)", "room_planes(low, high)"],
+    "placing": ["placed_body(low, high, tools, setting)"],
+    "measures": ["area_of(polygons, normal)", "length_of(direction, start, end)", "volume(body)"],
+    "faces": ["face_pieces(body, origins)", "facet(body, piece)", "faces(body)"],
+    "edges": ["edge_pieces(body, first, second)", "edges(body)"],
+    "corners": ["corner_points(body, first, second, third)", "corners(body)"],
+    "names": ["look(body, name, meant)", "itself(name)"],
+}
+
+# The methods of classes, each in the class itself.
+CLASSES = {
+    "bodies": {"Body": [
+        "__init__(self, low, high, planes, tools)", "holds(self, signs)", "beside(self, signs, plane)",
+        "maker(self, below, above)", "side(self, below, above, plane)", "flats(self)", "solid_cells(self)"]},
 }
 
 
@@ -39,6 +64,16 @@ class Interface(unittest.TestCase):
                 function = getattr(found, name)
                 self.assertEqual(name + str(inspect.signature(function)), line, module)
                 self.assertEqual(function.__module__, "truepart." + module)
+
+    def test_methods(self):
+        for module, classes in CLASSES.items():
+            found = importlib.import_module("truepart." + module)
+            for name, lines in classes.items():
+                own = vars(getattr(found, name))
+                self.assertEqual(getattr(found, name).__module__, "truepart." + module)
+                for line in lines:
+                    method = own[line.partition("(")[0]]
+                    self.assertEqual(method.__name__ + str(inspect.signature(method)), line)
 
 
 if __name__ == "__main__":

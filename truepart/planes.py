@@ -1,7 +1,7 @@
 """Planes: pairs (normal, offset) of a canonical direction and a fraction."""
 
-from truepart.numbers import fraction, minus, sign
-from truepart.products import inner, outer, reach
+from truepart.numbers import fraction
+from truepart.products import inner, outer, reach, reach_ratio, sign_of
 from truepart.vectors import plane_of, primitive, volume
 
 
@@ -47,8 +47,9 @@ def along(direction, point):
 
 def side(wall, point):
     """-1, 0 or 1, as a point is below, on or above a plane."""
-    normal, offset = wall
-    return sign(minus(reach(normal, point), offset))
+    normal, (least, under) = wall
+    number, divisor = reach_ratio(normal, point)
+    return sign_of(number * under - least * divisor)
 
 
 def sides(walls, point):
