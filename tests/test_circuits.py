@@ -116,7 +116,8 @@ class Forms(unittest.TestCase):
         self.assertIs(vanishes(((0, 1, 2), (1, 2, -1)), normals), False)
         self.assertIs(vanishes(((0, 1, 3), (1, 1, -1)), normals), False)
         self.assertIs(vanishes(((0, 1), (1, -1)), [X, X]), True)
-        self.assertIs(vanishes(((0, 1), (1, -1)), [(0, 0, 1), (0, 1, 1)]), False)
+        for other in ((2, 1, 1), (1, 2, 1), (1, 1, 2)):
+            self.assertIs(vanishes(((0, 1), (1, -1)), [(1, 1, 1), other]), False)
 
 
 if __name__ == "__main__":

@@ -72,6 +72,20 @@ class Pieces(unittest.TestCase):
         for first, second in (("1.high", "2.c 3.a"), ("1.high 2.c", "3.a"), ("1.high 2.c", "2.c 3.a")):
             self.assertEqual(pieces(body, first, second), reference.edge_pieces(body, origins(first), origins(second)))
 
+    def test_the_side_of_the_line_belongs_to_the_picture(self):
+        # All planes but x = 5 meet in the line y = 4, z = 3. In front of x = 5 the top lies on one side of it, behind on
+        # the other; the slanting wall goes on.
+        def side(number, name, normal, offset, above):
+            return ((number, (), name), normal, worth(offset), above)
+
+        three = ("both", ("both", ("side", 0), ("side", 1)), ("side", 2))
+        body = body_of(
+            (1, ("add", [side(1, "t", Z, 3, False), side(1, "a", Y, 4, False), side(1, "b", X, 5, False)], three)),
+            (2, ("add", [side(2, "t", Z, 3, False), side(2, "s", (0, 1, 1), 7, True)], ("both", ("side", 0), ("side", 1)))),
+            (3, ("add", [side(3, "t", Z, 3, True), side(3, "a", Y, 4, True), side(3, "b", X, 5, False)], three)))
+        self.assertEqual(told(body, "1.t 2.t", "2.s"), [edge(X, (0, 4, 3), (5, 4, 3)), edge(X, (5, 4, 3), (10, 4, 3))])
+        self.assertEqual(pieces(body, "1.t 2.t", "2.s"), reference.edge_pieces(body, origins("1.t 2.t"), origins("2.s")))
+
     def test_on_one_line(self):
         body = body_of(block(1, "add", (0, 10), (2, 6), (1, 3)), block(2, "cut", (2, 3), (0, 10), (2, 9)),
                        block(3, "cut", (7, 8), (0, 10), (2, 9)))

@@ -41,6 +41,11 @@ class Areas(unittest.TestCase):
         # (3, 2, 0) x (0, 2, 1) is (2, -3, 6).
         self.assert_area((2, -3, 6), (1, 1), (0, 0, 0), (3, 2, 0), (3, 4, 1), (0, 2, 1))
 
+    def test_normals_of_any_length_and_direction(self):
+        self.assert_area((0, 0, -2), (1, 4), (0, 0, 0), (1, 0, 0), (0, 1, 0))
+        self.assert_area((0, -1, 0), (7, 2), (0, 2, 0), (3, 2, 1), (1, 2, -2))
+        self.assert_area((-3, -3, -3), (1, 6), (1, 0, 0), (0, 1, 0), (0, 0, 1))
+
     def test_several(self):
         one, other = points((0, 0, 0), (1, 0, 0), (0, 1, 0)), points((0, 0, 4), (2, 0, 4), (2, 2, 4), (0, 2, 4))
         self.assertEqual(area_of([one, other], (0, 0, 1)), (9, 2))

@@ -2,7 +2,7 @@
 
 from itertools import combinations
 from truepart.numbers import common, fraction, times, total
-from truepart.planes import canonical, cross, dot, is_parallel, triple
+from truepart.planes import cross, dot, is_parallel, triple
 
 
 def without_common(multipliers):
@@ -27,7 +27,7 @@ def pairs(normals):
 def three_multipliers(a, b, c):
     """The multipliers of three directions in one plane, no two of them parallel."""
     # The cross products all go along one direction, so that products with it measure them.
-    axis = canonical(cross(a, b))
+    axis = cross(a, b)
     return without_common((dot(cross(b, c), axis), dot(cross(c, a), axis), dot(cross(a, b), axis)))
 
 

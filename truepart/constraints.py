@@ -1,6 +1,6 @@
 """Constraints: sums of multiples of variables that are greater than a bound, at least a bound, or equal to it."""
 
-from truepart.numbers import ONE, ZERO, less, middle, minus, negative, over, plus, sign, times, total
+from truepart.numbers import ONE, ZERO, less, middle, minus, negative, over, plus, sign, times, total, without_sign
 
 
 def left_side(coefficients, point):
@@ -15,11 +15,6 @@ def meets(row, point):
     if kind == "equal":
         return ahead == 0
     return ahead > 0 or (ahead == 0 and kind == "least")
-
-
-def without_sign(a):
-    """A fraction without its sign."""
-    return negative(a) if sign(a) < 0 else a
 
 
 def mixed(a, first, b, second, kind):

@@ -49,7 +49,8 @@ def origins_at(flats):
 
 def is_corner(body, places):
     """Whether some three of the origins of a dict, which tells the indexes of their planes, have a corner."""
-    for one, other, third in combinations(list(places), 3):
+    origins = list(places)
+    for one, other, third in combinations(origins, 3):
         if have_corner(body, places[one], places[other], places[third]):
             return True
     return False

@@ -87,7 +87,8 @@ def by_pair(segments):
     """A dict from each pair of origins to the segments that have flat places of both."""
     found = {}
     for row in segments:
-        for pair in combinations(sorted(set([flat[3] for flat, _ in row[3]])), 2):
+        origins = sorted(set([flat[3] for flat, _ in row[3]]))
+        for pair in combinations(origins, 2):
             found.setdefault(pair, []).append(row)
     return found
 

@@ -3,7 +3,7 @@
 from truepart.affine import add, constant, opposite, parameter, scale
 from truepart.characters import DIGITS, LETTERS, WORD_CHARACTERS, is_short_word, row_end
 from truepart.errors import TextFault
-from truepart.numbers import ONE, ZERO, common, negative, read_ratio, sign, told
+from truepart.numbers import ONE, ZERO, common, read_ratio, sign, told, without_sign
 
 # Numbers of a value are short if they are below this.
 SHORT = 1000000000000
@@ -75,11 +75,6 @@ def read_expression(names, text):
     if not is_short(found):
         raise TextFault(1, 1)
     return found
-
-
-def without_sign(a):
-    """A fraction without its sign."""
-    return negative(a) if sign(a) < 0 else a
 
 
 def term_text(name, slope):

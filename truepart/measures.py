@@ -21,7 +21,7 @@ def turn(a, b, c):
 
 
 def around(corners):
-    """The corners of a convex polygon, pairs in an order along some line, in the order of going around it."""
+    """The corners of a convex polygon, pairs in an order along some line, in the order of going around to the left."""
     first, last = corners[0], corners[-1]
     between = corners[1:-1]
     right = [corner for corner in between if turn(first, last, corner) < 0]
@@ -35,8 +35,8 @@ def polygon_area(corners, normal):
     # Seen along an axis that is not in the plane, the polygon is a shadow whose area tells its own.
     axis = [k for k in range(3) if normal[k] != 0][0]
     shadow = around([(triple[axis - 2], triple[axis - 1]) for triple in triples])
-    size = sum([turn((0, 0), a, b) for a, b in zip(shadow, shadow[1:] + shadow[:1])])
-    return fraction(abs(size), 2 * divisor * divisor * abs(normal[axis]))
+    twice = sum([turn((0, 0), a, b) for a, b in zip(shadow, shadow[1:] + shadow[:1])])
+    return fraction(twice, 2 * divisor * divisor * abs(normal[axis]))
 
 
 def area_of(polygons, normal):

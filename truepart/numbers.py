@@ -64,6 +64,11 @@ def sign(a):
     return 0
 
 
+def without_sign(a):
+    """A fraction without its sign."""
+    return (abs(a[0]), a[1])
+
+
 def middle(a, b):
     """Half the sum of two fractions."""
     return fraction(a[0] * b[1] + b[0] * a[1], 2 * a[1] * b[1])
