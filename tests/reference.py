@@ -172,3 +172,48 @@ def pyramid(corners, top):
             sides = [tuple(y - x for x, y in zip(top, other)) for other in (a, b, heart)]
             found += abs(sum(x * y for x, y in zip(sides[0], cross(sides[1], sides[2])))) / 6
     return found
+
+
+def lumps(body):
+    """The lumps, with volumes of convex cells that are cut into pyramids."""
+    full = [cell for cell in body.cells if 0 not in cell[0] and in_body(body, centre(cell[1]))]
+    flats = [signs for signs, _ in body.cells if signs.count(0) == 1]
+
+    def touch(a, b):
+        differ = [k for k, (x, y) in enumerate(zip(a[0], b[0])) if x != y]
+        return len(differ) == 1 and a[0][:differ[0]] + (0,) + a[0][differ[0] + 1:] in flats
+
+    found = []
+    for group in hang_together(full, touch):
+        whole = sum(solid_volume(points) for _, points in group)
+        found.append((whole, min([order(point) for _, points in group for point in points])))
+    return [(pair(whole), tuple(map(pair, corner))) for whole, corner in sorted(found, key=lambda lump: lump[::-1])]
+
+
+def flat_area(points, normal):
+    """The area of a flat convex polygon over the length of its normal, by the volume of a pyramid over it."""
+    top = tuple(x + n for x, n in zip(order(points[0]), normal))
+    # A third of the area times the height, which is the length of the normal.
+    return 3 * pyramid([order(point) for point in points], top) / sum(n * n for n in normal)
+
+
+def section(body, wall):
+    """The parts that a plane, which is one of those of the body, cuts out."""
+    at = body.planes.index(wall)
+    flats = []
+    for signs, points in body.cells:
+        if dimension(signs, body.planes) == 2 and signs[at] == 0:
+            beside = [signs[:at] + (side,) + signs[at + 1:] for side in (-1, 1)]
+            cells = [cell for cell in body.cells if cell[0] in beside]
+            if len(cells) == 2 and all(in_body(body, centre(points)) for _, points in cells):
+                flats.append((signs, points))
+    lines = segments(body)
+
+    def touch(a, b):
+        return any(in_closure(signs, a[0]) and in_closure(signs, b[0]) for signs, _ in lines)
+
+    found = []
+    for group in hang_together(flats, touch):
+        area = sum(flat_area(points, wall[0]) for _, points in group)
+        found.append(([order(point) for point in corners_of_part(body, group)], area))
+    return [(pair(area), [tuple(map(pair, point)) for point in corners]) for corners, area in sorted(found)]

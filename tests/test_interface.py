@@ -44,6 +44,10 @@ INTERFACE = {
     "edges": ["edge_pieces(body, first, second)", "edges(body)"],
     "corners": ["corner_points(body, first, second, third)", "corners(body)"],
     "names": ["look(body, name, meant)", "itself(name)"],
+    "making": ["make(document, setting)"],
+    "lumps": ["lumps(body)", "state_at(body, point)"],
+    "sections": ["section(body, wall)"],
+    "edits": ["apply(document, edit)", "replayed(low, high, rows)", "without_last(rows, hand)"],
 }
 
 # The methods of classes, each in the class itself.
@@ -51,6 +55,14 @@ CLASSES = {
     "bodies": {"Body": [
         "__init__(self, low, high, planes, tools)", "holds(self, signs)", "beside(self, signs, plane)",
         "maker(self, below, above)", "side(self, below, above, plane)", "flats(self)", "solid_cells(self)"]},
+    "documents": {"Document": [
+        "__init__(self, low, high)", "names(self)", "setting(self)", "place(self, number)", "copied(self)"]},
+    "modellers": {"Modeller": [
+        "__init__(self, low, high)", "declare(self, hand, name, value, low, high)", "set_value(self, hand, name, value)",
+        "insert_feature(self, hand, text, *, place=None)", "change(self, hand, number, text, *, becomes=())",
+        "remove_feature(self, hand, number)", "move(self, hand, number, place)", "suppress(self, hand, number, on)",
+        "keep(self, hand, text)", "undo(self, hand)", "parameters(self)", "edits(self)", "features(self)",
+        "kept_names(self)", "body(self)", "look_up(self, name)"]},
 }
 
 

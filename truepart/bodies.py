@@ -112,16 +112,23 @@ class Body:
                     return side[0]
         return None
 
-    def flats(self):
-        """The flat places: tuples (signs, vertices, index of the plane, origin, whether the body is below)."""
+    def flat_cells(self):
+        """The cells with exactly one sign 0: tuples (signs, vertices, index of the plane, signs below, signs above)."""
         found = []
         for signs, points in self.cells:
             if signs.count(0) == 1:
                 plane = signs.index(0)
                 below, above = self.beside(signs, plane)
-                is_below = self.holds(below)
-                if is_below != self.holds(above):
-                    found.append((signs, list(points), plane, self.side(below, above, plane), is_below))
+                found.append((signs, list(points), plane, below, above))
+        return found
+
+    def flats(self):
+        """The flat places: tuples (signs, vertices, index of the plane, origin, whether the body is below)."""
+        found = []
+        for signs, points, plane, below, above in self.flat_cells():
+            is_below = self.holds(below)
+            if is_below != self.holds(above):
+                found.append((signs, points, plane, self.side(below, above, plane), is_below))
         return found
 
     def solid_cells(self):

@@ -52,11 +52,15 @@ def length_of(direction, start, end):
     return over(minus(reach(direction, end), reach(direction, start)), fraction(inner(direction, direction)))
 
 
-def volume(body):
-    """The volume of a body."""
+def enclosed(parts):
+    """The volume that flat convex polygons enclose: tuples (corners, plane, whether the inside is below it)."""
     found = ZERO
-    for _, points, place, _, is_below in body.flats():
-        normal, offset = body.planes[place]
-        share = times(area_of([points], normal), offset)
+    for corners, (normal, offset), is_below in parts:
+        share = times(polygon_area(corners, normal), offset)
         found = plus(found, share) if is_below else minus(found, share)
     return over(found, fraction(3))
+
+
+def volume(body):
+    """The volume of a body."""
+    return enclosed([(points, body.planes[place], is_below) for _, points, place, _, is_below in body.flats()])

@@ -127,10 +127,14 @@ def rewritten(names, text):
     return feature_text(names, read_feature(names, text))
 
 
+def named_places(feature):
+    """The words for the places of a feature that stand on names: of its spot, then of its ends."""
+    return [word for word in ("spot", "from", "to") if word in feature and feature[word][0] is not None]
+
+
 def spots(feature):
     """The list of the names in a feature: that of its spot, then those of its ends."""
-    places = [feature[word] for word in ("spot", "from", "to") if word in feature]
-    return [place[0] for place in places if place[0] is not None]
+    return [feature[word][0] for word in named_places(feature)]
 
 
 def side_names(feature):
