@@ -48,6 +48,17 @@ INTERFACE = {
     "lumps": ["lumps(body)", "state_at(body, point)"],
     "sections": ["section(body, wall)"],
     "edits": ["apply(document, edit)", "replayed(low, high, rows)", "without_last(rows, hand)"],
+    "ways": [
+        "way_to(document, goals)", "at_place(way, place)", "walls_at(document, setting)", "form_values(walls)",
+        "root(way, worth)", "events(walls, way)", "stage_at(document, way, place)", "stages(document, way)",
+        "sample(stage)"],
+    "following": ["things_of(body, name, meant)", "cells_of(body, name, thing)", "follow(document, way, name, meant)"],
+    "surveys": [
+        "survey(document, way, name, meant)", "survives(document, way, name, meant)",
+        "state_along(document, way, name, meant, place)"],
+    "equations": ["settle(rows, many)", "worth_of(kept, at)"],
+    "contact": ["contact(first, second, shifts, low, high)"],
+    "papers": ["paper_for(walls, signs)", "there(walls, signs)", "judge(walls, signs, paper)"],
 }
 
 # The methods of classes, each in the class itself.
@@ -63,6 +74,10 @@ CLASSES = {
         "remove_feature(self, hand, number)", "move(self, hand, number, place)", "suppress(self, hand, number, on)",
         "keep(self, hand, text)", "undo(self, hand)", "parameters(self)", "edits(self)", "features(self)",
         "kept_names(self)", "body(self)", "look_up(self, name)"]},
+    "assemblies": {"Assembly": [
+        "__init__(self, low, high)", "put_in(self, name, body)", "part_names(self)",
+        "flush(self, first, one, second, other, *, gap=(0, 1))", "meet(self, first, one, second, other)",
+        "unmate(self, number)", "places(self)", "contact_of(self, first, second)"]},
 }
 
 

@@ -68,6 +68,7 @@ class Body:
         self.tools.append(room_tool(len(self.planes) - len(ROOM_SIDES)))
         self.cells = arrange(self.planes, low, high)
         self.known = {}
+        self.ends = None
 
     def states(self, signs):
         """For each tool whether a place is in the body behind it."""
@@ -122,14 +123,21 @@ class Body:
                 found.append((signs, list(points), plane, below, above))
         return found
 
-    def flats(self):
-        """The flat places: tuples (signs, vertices, index of the plane, origin, whether the body is below)."""
+    def flats_found(self):
+        """The flat places, as flats returns them."""
         found = []
         for signs, points, plane, below, above in self.flat_cells():
             is_below = self.holds(below)
             if is_below != self.holds(above):
                 found.append((signs, points, plane, self.side(below, above, plane), is_below))
         return found
+
+    def flats(self):
+        """The flat places: tuples (signs, vertices, index of the plane, origin, whether the body is below)."""
+        # Kept, since faces, edges and corners all go out from them.
+        if self.ends is None:
+            self.ends = self.flats_found()
+        return [(signs, list(points), plane, origin, below) for signs, points, plane, origin, below in self.ends]
 
     def solid_cells(self):
         """The cells (signs, vertices) with no sign 0 that are in the body."""
