@@ -1,7 +1,7 @@
 """Papers: what shows whether there is a point with certain signs at planes."""
 
 from truepart.constraints import solve
-from truepart.numbers import ONE, ZERO, fraction, negative, sign, times, total
+from truepart.numbers import ZERO, fraction, negative, sign, times, total
 from truepart.planes import sides
 
 
