@@ -141,7 +141,8 @@ def move(document, number, place):
 def suppress(document, number, on):
     """Suppresses a feature, or no longer."""
     at = document.place(number)
-    document.features[at] = {**document.features[at], "suppressed": on}
+    row = document.features[at]
+    document.features[at] = {**row, "suppressed": on}
 
 
 def keep(document, text):

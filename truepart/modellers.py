@@ -23,9 +23,11 @@ def told_edit(edit, came):
     if kind in ("insert", "keep"):
         return (*edit, came)
     if kind in ("declare", "set"):
-        return (kind, edit[1], *[told(part) for part in edit[2:]])
+        texts = [told(part) for part in edit[2:]]
+        return (kind, edit[1], *texts)
     if kind == "change":
-        return (*edit[:3], [(side, list(sides)) for side, sides in edit[3]])
+        _, number, text, pairs = edit
+        return (kind, number, text, [(side, list(sides)) for side, sides in pairs])
     return edit
 
 
@@ -103,7 +105,10 @@ class Modeller:
 
     def parameters(self):
         """The list of the parameters: tuples (name, value, low, high), fractions being told as texts."""
-        return [(row[0], *[told(part) for part in row[1:]]) for row in self.document.parameters]
+        found = []
+        for name, value, low, high in self.document.parameters:
+            found.append((name, told(value), told(low), told(high)))
+        return found
 
     def edits(self):
         """The list of the edits that stand: tuples (number, hand, edit)."""
