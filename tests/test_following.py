@@ -9,6 +9,7 @@ from solids import block, block_text, body_of, origins, plain_block, slotted_blo
 from truepart.cells import dimension
 from truepart.corners import corner_points
 from truepart.edges import edge_pieces
+from truepart.edits import apply
 from truepart.faces import face_pieces
 from truepart.following import cells_of, follow, things_of
 from truepart.making import make
@@ -229,6 +230,24 @@ class Follow(unittest.TestCase):
         # The name means the top of the block and the half that cuts it away.
         rows = followed(found, 10, "face 1.high", "1.high 3.half")
         self.assertEqual(rows[:4], [(0, 1, [0]), ((0, 1), 1, [0]), (1, 1, [0]), ((1, 2), 1, [])])
+
+    def test_the_place_beside_is_near_enough(self):
+        # Feature 5 is made at w = 3 alone, where both corners are found that it needs. Its lines are to the left and to
+        # the right of feature 1 there; behind w = 3 the one goes quickly past it, and in front of w = 3 the other.
+        sketch = ('cut at "corner 1.c 3.d 3.high" u (1, 0, 0) v (0, 1, 0) w (0, 0, 1) {'
+                  ' line a (0, 1) through "100*w - 605/2" "0"; line b (0, 1) through "100*w - 599/2" "0"; }'
+                  ' area left a & right a; from "1" to on "plane 4.half";')
+        found = document(
+            declared("w", "2", "0", "9"), inserted(block_text("add", (1, 3), (1, 3), (1, 5))),
+            inserted(block_text("add", ("w", "w + 2"), (3, 5), (1, 2))),
+            inserted(block_text("add", ("6 - w", "8 - w"), (3, 5), (3, 4))),
+            inserted('cut half (0, 0, 1) at "corner 1.c 2.d 2.high" plus ("0", "0", "5/2");'), inserted(sketch))
+        made = [[row[2] for row in make(found, [(w, 2)])[1]].count("") for w in (5, 6, 7)]
+        self.assertEqual(made, [4, 5, 3])
+        for start, goal in [("2", 4), ("4", 2)]:
+            found, _ = apply(found, ("set", "w", (int(start), 1)))
+            for text in ("face 1.low", "edge 1.low 1.a 1/1", "corner 1.low 1.a 1.b"):
+                self.assertEqual([row[1:] for row in followed(found, goal, text)], [(1, [0])] * len(stages(found, to(found, goal))))
 
     def test_as_the_document_says(self):
         chance = random.Random(81)

@@ -6,7 +6,7 @@ from parts import BLOCK, HALF, SLOT, declared, document, inserted, sketch_text
 from solids import block_text
 from truepart.bodies import Body
 from truepart.edits import apply
-from truepart.making import front_of, make
+from truepart.making import front_of, is_long, make
 from truepart.measures import volume
 
 SHIFT = 'copy {} shift ("1", "0", "0") times {};'
@@ -165,11 +165,10 @@ class Copies(unittest.TestCase):
         self.assertEqual(last_state(*rows, mirror.format(3)), "waits feature 3 waits")
 
     def test_the_bound_of_a_normal(self):
-        # The size of (71, 73, 0) is 10370; times 10**5 less twice a part it can be on both sides of the bound.
-        for direction, wanted in [((1, 2, 2), "made"), ((100, 99, 98), "waits too long a normal")]:
-            first = MIRROR.format(1, "(71, 79, 83)", '("0", "0", "0")')
-            second = MIRROR.format(2, str(direction), '("0", "0", "0")')
-            self.assertEqual(last_state('keep half (97, 3, 5) at ("1", "0", "0");', first, second), wanted)
+        for normal, wanted in [((1, 10 ** 9, 0), False), ((1, 0, -10 ** 9), False), ((1, 10 ** 9 + 1, 0), True),
+                               ((0, 1, -10 ** 9 - 1), True), ((10 ** 9 + 1, 0, 1), True)]:
+            sides = [((1, (), "half"), (0, 0, 1), ((0, 1), ()), True), ((1, (), "x"), normal, ((0, 1), ()), True)]
+            self.assertIs(is_long(("cut", sides, ("side", 0))), wanted, normal)
 
     def test_names_of_mirrors(self):
         text = MIRROR.format(1, "(1, 0, 0)", '"{}"')
@@ -342,6 +341,22 @@ class Along(unittest.TestCase):
         found = document(declared("w", "8"), inserted(STEP), inserted('cut half (0, -1, 0) at ("0", "5", "0");'), inserted(text))
         found = behind(found, ("change", 1, STEP, [("b", ["b", "e"])]))
         self.assertEqual(offsets(found, 3, [(8, 1)]), {"half": ((-1, 1), ((1, 1),))})
+
+    def test_only_the_plane_that_is_found_counts(self):
+        # The face of low and high that looks up is that of high, wherever low stands in the list.
+        text = 'cut half (0, 0, 1) at "face 1.high up" plus ("0", "0", "-1");'
+        block = STEP.replace('to "4"', 'to "w - 4"')
+        for name, offset in [("face 1.high up", ((-5, 1), ((1, 1),))), ("face 1.high down", ((0, 1), ((0, 1),)))]:
+            found = document(declared("w", "8"), inserted(block), inserted(text.replace("face 1.high up", name)),
+                             ("change", 1, block, [("high", ["low", "high"])]))
+            self.assertEqual(offsets(found, 2, [(8, 1)]), {"half": offset})
+
+    def test_only_what_is_at_the_corner_counts(self):
+        # At (8, 9, 4) there is e, but not b, which has flat places elsewhere.
+        base = 'cut at "corner 1.b 1.c 1.high" u (1, 0, 0) v (0, 1, 0) w (0, 0, 1) { line a (0, 1) through "0" "0"; }' \
+               ' area left a; from "0" to "1";'
+        self.assertEqual(offsets(self.step(base, ["b", "d", "e"]), 2, [(8, 1)]), {})
+        self.assertEqual(offsets(self.step(base, ["b", "e"]), 2, [(8, 1)])["a"], ((0, 1), ((1, 1),)))
 
     def test_the_first_place_of_a_face_by_an_edge(self):
         text = 'cut half (1, 0, 0) at "face 1.b by 1.high 1/1";'

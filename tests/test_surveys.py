@@ -161,6 +161,16 @@ class Surveys(unittest.TestCase):
         self.assertEqual(surveyed(found, 5, "face 2.half"), [
             ("[14", "9)", "lost", 0, False, ""), ("[9", "5]", "found", 1, True, "2.half 0.xh")])
 
+    def test_walls_that_are_there_on_one_side_only(self):
+        # Where feature 1 leaves the room feature 2, which comes to it just there, waits.
+        rows = [HALF, 'add half (1, 0, 0) at "face 1.half" plus ("w - 10", "0", "0");']
+        found = document(declared("w", "8", "-9", "20"), *[inserted(text) for text in rows])
+        self.assertEqual(surveyed(found, 12, "face 2.half"), [
+            ("[8", "10)", "found", 1, False, ""), ("[10", "12]", "lost", 0, False, "1.half 2.half")])
+        back = document(declared("w", "12", "-9", "20"), *[inserted(text) for text in rows])
+        self.assertEqual(surveyed(back, 8, "face 2.half"), [
+            ("[12", "10]", "lost", 0, False, ""), ("(10", "8]", "found", 1, True, "1.half 2.half")])
+
     def test_parts_of_one_place(self):
         # At w = 4 alone the tops of two blocks are one face.
         rows = [block_text("add", (1, 3), (1, 3), (1, "w")), block_text("add", (3, 5), (1, 3), (1, 4))]
