@@ -135,9 +135,10 @@ class Trail:
         cells = body.cells if planes == body.planes else arrange(planes, body.low, body.high)
         found = []
         for signs, points in cells:
-            at = known.get(tuple([signs[k] for k in own]))
-            if at is not None and is_of_size(self.name, signs, points):
-                found.append((tuple([signs[k] for k in places]), at))
+            if is_of_size(self.name, signs, points):
+                at = known.get(tuple([signs[k] for k in own]))
+                if at is not None:
+                    found.append((tuple([signs[k] for k in places]), at))
         return found
 
     def links(self, place, stage):

@@ -14,10 +14,9 @@ def told_of(found):
     return state, 1 if state == "found" else len(things)
 
 
-def has_moved(trail, stage, at):
-    """Whether a name has moved at a stage, if it was followed to the things with these indexes."""
-    place = sample(stage)
-    state, thing = trail.look(place)
+def has_moved(trail, place, found, at):
+    """Whether a name has moved that look has found at a place, if it was followed to the things with these indexes."""
+    state, thing = found
     if state != "found":
         return False
     if trail.name[0] == "plane":
@@ -28,11 +27,13 @@ def has_moved(trail, stage, at):
 
 def told_along(trail):
     """For each stage the stage, the state, the number of things, and whether the name has moved."""
-    found = []
+    rows = []
     for stage, at in trail.stages():
-        state, number = told_of(trail.look(sample(stage)))
-        found.append((stage, state, number, has_moved(trail, stage, at)))
-    return found
+        place = sample(stage)
+        found = trail.look(place)
+        state, number = told_of(found)
+        rows.append((stage, state, number, has_moved(trail, place, found, at)))
+    return rows
 
 
 def meeting_at(route, place, stage):
