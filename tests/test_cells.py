@@ -5,6 +5,7 @@ import unittest
 from fractions import Fraction
 from itertools import product
 
+import stars_reference
 from solids import at, points
 from truepart.cells import (
     arrange, before, centre, count_cells, dimension, in_closure, in_order, is_inside, vertices, walls)
@@ -171,6 +172,20 @@ class Arrangements(unittest.TestCase):
                 direction = (chance.randint(-2, 2), chance.randint(-2, 2), chance.randint(1, 2))
                 planes.append((canonical(direction), (chance.randint(-3, 3), 1)))
             self.assert_whole(planes, low, high)
+
+    def test_as_around_each_vertex(self):
+        chance = random.Random(14)
+        low, high = at(-1, (-1, 2), 0), at(2, 3, (5, 2))
+        for _ in range(30):
+            planes = []
+            slanted = chance.choice((0, 0, 1, 2, 4))
+            for k in range(chance.randint(slanted, 6)):
+                direction = (chance.randint(-1, 2), chance.randint(-2, 2), chance.randint(1, 2))
+                normal = canonical(direction) if k < slanted else chance.choice((X, Y, Z))
+                planes.append((normal, fraction(chance.randint(-4, 7), 2)))
+            chance.shuffle(planes)
+            whole = planes + walls(low, high)
+            self.assertEqual(arrange(whole, low, high), stars_reference.arrange(whole, low, high), planes)
 
     def test_what_is_handed_in_does_not_change(self):
         planes = [plane(X, 1)] + ROOM

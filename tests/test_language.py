@@ -20,7 +20,7 @@ NODES = set(
     "Module Expr Constant ImportFrom alias FunctionDef ClassDef arguments arg Return Assign AugAssign Name Load Store"
     " Attribute Call Subscript Slice Tuple List Dict Compare BoolOp BinOp UnaryOp IfExp If For While Break Continue Pass"
     " Raise Try ExceptHandler ListComp DictComp comprehension JoinedStr FormattedValue Starred keyword And Or Not USub"
-    " Add Sub Mult FloorDiv Mod Pow Eq NotEq Lt LtE Gt GtE In NotIn Is IsNot".split())
+    " Add Sub Mult FloorDiv Mod Pow BitAnd BitOr BitXor LShift RShift Eq NotEq Lt LtE Gt GtE In NotIn Is IsNot".split())
 WORDS = set(
     "type typing enum Enum IntEnum Flag Generic Protocol ABC namedtuple NamedTuple register mro elements open input law"
     " eval exec exit compile copyright credits license dir globals locals vars help id os sys quit super".split())

@@ -1,12 +1,12 @@
 """Assemblies: parts in a room, and the mates that tell where they are."""
 
-from truepart.cells import AXES
 from truepart.contact import contact
 from truepart.equations import settle, worth_of
 from truepart.errors import Beyond, Full, Taken, Unknown, Unplaced
 from truepart.names import itself, look
 from truepart.nametexts import read_name
 from truepart.numbers import ZERO, fraction, minus, plus
+from truepart.products import AXES
 
 MOST_PARTS = 4
 MOST_MATES = 16

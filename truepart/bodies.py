@@ -1,8 +1,9 @@
 """Bodies: what tools, one behind the other, make within a room."""
 
-from truepart.areas import joined_parts
-from truepart.cells import arrange, walls
-from truepart.stars import replaced
+from truepart.cells import walls
+from truepart.makers import halves_of, holds_in, turned_side
+from truepart.shells import Shell
+from truepart.signs import flat_among, signs_beside
 
 ROOM_SIDES = ("xl", "xh", "yl", "yh", "zl", "zh")
 
@@ -22,20 +23,10 @@ def room_tool(first):
     return (0, "keep", sides, test)
 
 
-def halves_of(sides, signs):
-    """For each side whether a place with these signs is in its half."""
-    return [(signs[plane] > 0) == above for _, plane, above in sides]
-
-
-def holds_in(test, halves):
-    """Whether a test holds of a place that is in these halves."""
-    kind = test[0]
-    if kind == "side":
-        return halves[test[1]]
-    if kind == "not":
-        return not holds_in(test[1], halves)
-    found = [holds_in(part, halves) for part in joined_parts(test)]
-    return all(found) if kind == "both" else any(found)
+def with_room(planes, tools):
+    """Tools, in a new list, with that of the room behind them; the last planes are those of the room."""
+    found = [(number, op, list(sides), test) for number, op, sides, test in tools]
+    return found + [room_tool(len(planes) - len(ROOM_SIDES))]
 
 
 def test_holds(test, sides, signs):
@@ -64,11 +55,10 @@ class Body:
         self.low = low
         self.high = high
         self.planes = list(planes)
-        self.tools = [(number, op, list(sides), test) for number, op, sides, test in tools]
-        self.tools.append(room_tool(len(self.planes) - len(ROOM_SIDES)))
-        self.cells = arrange(self.planes, low, high)
+        self.tools = with_room(self.planes, tools)
+        self.bounds = Shell(low, high, self.planes, self.tools)
+        self.cells = self.bounds.all_cells()
         self.known = {}
-        self.ends = None
 
     def states(self, signs):
         """For each tool whether a place is in the body behind it."""
@@ -88,7 +78,7 @@ class Body:
 
     def beside(self, signs, plane):
         """The signs below and above the plane with this index."""
-        return (replaced(signs, [plane], [-1]), replaced(signs, [plane], [1]))
+        return signs_beside(signs, plane)
 
     def maker(self, below, above):
         """The index of the last tool that changed one of two places, or None."""
@@ -104,40 +94,20 @@ class Body:
         if maker is None:
             return None
         _, _, sides, test = self.tools[maker]
-        halves = halves_of(sides, below)
-        there = holds_in(test, halves)
-        for k, side in enumerate(sides):
-            if side[1] == plane:
-                halves[k] = not halves[k]
-                if holds_in(test, halves) != there:
-                    return side[0]
-        return None
+        return turned_side(sides, test, halves_of(sides, below), plane)
 
     def flat_cells(self):
         """The cells with exactly one sign 0: tuples (signs, vertices, index of the plane, signs below, signs above)."""
-        found = []
-        for signs, points in self.cells:
-            if signs.count(0) == 1:
-                plane = signs.index(0)
-                below, above = self.beside(signs, plane)
-                found.append((signs, list(points), plane, below, above))
-        return found
-
-    def flats_found(self):
-        """The flat places, as flats returns them."""
-        found = []
-        for signs, points, plane, below, above in self.flat_cells():
-            is_below = self.holds(below)
-            if is_below != self.holds(above):
-                found.append((signs, points, plane, self.side(below, above, plane), is_below))
-        return found
+        return flat_among(self.cells)
 
     def flats(self):
         """The flat places: tuples (signs, vertices, index of the plane, origin, whether the body is below)."""
-        # Kept, since faces, edges and corners all go out from them.
-        if self.ends is None:
-            self.ends = self.flats_found()
-        return [(signs, list(points), plane, origin, below) for signs, points, plane, origin, below in self.ends]
+        found = self.bounds.flats()
+        return [(signs, list(points), plane, origin, below) for signs, points, plane, origin, below in found]
+
+    def planes_through(self, point):
+        """The planes on which a vertex lies, as the bits of an integer."""
+        return self.bounds.planes_through(point)
 
     def solid_cells(self):
         """The cells (signs, vertices) with no sign 0 that are in the body."""

@@ -1,15 +1,12 @@
 """Cells: what planes make of a room, told by sides."""
 
 from itertools import combinations
+from truepart.cuts import divided_cells
+from truepart.grids import Grid
 from truepart.numbers import fraction, less, over, total
 from truepart.ordering import point_rank, scale_for_points
-from truepart.planes import independent, meeting, sides
-from truepart.stars import replaced, star
-
-AXES = ((1, 0, 0), (0, 1, 0), (0, 0, 1))
-
-# The signs that points of the room can have at its sides, besides 0.
-ROOM_SIGNS = (1, -1, 1, -1, 1, -1)
+from truepart.planes import independent, meeting
+from truepart.products import AXES
 
 
 def walls(low, high):
@@ -51,31 +48,18 @@ def vertices(planes, low, high):
     return in_order(found)
 
 
-def room_star(walls_there):
-    """The signs of the places of the room close to a point, at planes through it.
-
-    The planes are told as pairs of a normal and the sign that the room allows there, 0 if it allows both.
-    """
-    found = star([normal for normal, _ in walls_there])
-    allowed = [sign for _, sign in walls_there]
-    return [signs for signs in found if all([a * b >= 0 for a, b in zip(signs, allowed)])]
-
-
 def arrange(planes, low, high):
     """The list of all cells as pairs of sides and vertices, in ascending order of the sides."""
-    allowed = (0,) * (len(planes) - len(ROOM_SIGNS)) + ROOM_SIGNS
-    stars = {}
-    found = {}
-    # Each cell has a vertex; so all cells are found around the vertices.
-    for point in vertices(planes, low, high):
-        signs = sides(planes, point)
-        there = [k for k, sign in enumerate(signs) if sign == 0]
-        key = tuple([(planes[k][0], allowed[k]) for k in there])
-        if key not in stars:
-            stars[key] = room_star(key)
-        for near in stars[key]:
-            found.setdefault(replaced(signs, there, near), []).append(point)
-    return sorted(list(found.items()))
+    # The sides of the room among the planes tell what low and high tell.
+    found = Grid([plane for plane in planes if plane[0] in AXES]).all_cells()
+    slanted = [k for k, plane in enumerate(planes) if plane[0] not in AXES]
+    if not slanted:
+        return found
+    for k in slanted:
+        found = divided_cells(found, k, planes[k])
+    points = in_order([points[0] for _, points in found if len(points) == 1])
+    ranks = {point: k for k, point in enumerate(points)}
+    return sorted([(signs, [points[k] for k in sorted([ranks[point] for point in there])]) for signs, there in found])
 
 
 def dimension(signs, planes):

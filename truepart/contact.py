@@ -5,7 +5,7 @@ from truepart.cells import arrange
 from truepart.measures import enclosed
 from truepart.numbers import plus
 from truepart.planes import along
-from truepart.stars import replaced
+from truepart.signs import flat_among
 
 
 def shifted_planes(body, shift):
@@ -21,12 +21,9 @@ def inside_of(body, planes, cells):
 def volume_of(inside, planes, cells):
     """The volume of full cells, told by a dict of their signs, among all cells of planes."""
     parts = []
-    for signs, points in cells:
-        if signs.count(0) == 1:
-            place = signs.index(0)
-            below, above = replaced(signs, [place], [-1]), replaced(signs, [place], [1])
-            if (below in inside) != (above in inside):
-                parts.append((points, planes[place], below in inside))
+    for _, points, place, below, above in flat_among(cells):
+        if (below in inside) != (above in inside):
+            parts.append((points, planes[place], below in inside))
     return enclosed(parts)
 
 

@@ -20,7 +20,7 @@ class Waits(PartError):
 
 def thing_named(front, name, meant):
     """The thing to which a name goes, which must be found."""
-    state, thing = look(front.body(), name, meant)
+    state, thing = look(front.shell(), name, meant)
     if state != "found":
         raise Waits(f"{name_text(name)} is {state}")
     return thing
@@ -42,7 +42,7 @@ def plane_named(front, name, meant):
     if name[0] not in ("plane", "face", "piece"):
         refuse_fit(name)
     place = thing if name[0] == "plane" else thing[0]
-    there = {flat[3]: True for flat in front.body().flats() if flat[2] == place}
+    there = {flat[3]: True for flat in front.shell().flats() if flat[2] == place}
     return planes_by_origin(front)[[origin for origin in meant[0] if origin in there][0]]
 
 
@@ -71,7 +71,7 @@ def corner_named(front, name, meant):
     point = thing_named(front, name, meant)
     if name[0] != "corner":
         refuse_fit(name)
-    there = {flat[3]: True for flat in front.body().flats() if point in flat[1]}
+    there = {flat[3]: True for flat in front.shell().flats() if point in flat[1]}
     planes = planes_by_origin(front)
     rows = [[planes[origin] for origin in origins if origin in there] for origins in meant]
     a, b, c = independent_planes(rows)

@@ -2,7 +2,7 @@
 
 from truepart.affine import constant
 from truepart.bodies import ROOM_SIDES, room_planes
-from truepart.placing import placed_body
+from truepart.placing import body_of, placed_tool, shell_of
 
 
 def room_walls(low, high, many):
@@ -21,13 +21,17 @@ class Front:
         self.high = high
         self.setting = list(setting)
         self.tools = []
+        self.placed = []
         self.standing = None
+        self.bounds = None
 
     def take(self, number, tools):
         """Takes the tools of the feature with a number, behind the others."""
         for tool in tools:
             self.tools.append((number, tool))
+            self.placed.append(placed_tool(number, tool, self.setting))
             self.standing = None
+            self.bounds = None
 
     def tools_of(self, number):
         """The tools of the feature with a number; none if it is not made."""
@@ -41,9 +45,16 @@ class Front:
                 found.append((origin, normal, offset))
         return found + room_walls(self.low, self.high, len(self.setting))
 
+    def shell(self):
+        """The boundary of the body that the tools make."""
+        # Kept until tools come, since several names can be looked for in it.
+        if self.bounds is None:
+            self.bounds = shell_of(self.low, self.high, self.placed)
+        return self.bounds
+
     def body(self):
         """The body that the tools make."""
-        # Kept until tools come, since several names can be looked for in it.
+        # Kept until tools come, since it is asked for again along a way.
         if self.standing is None:
-            self.standing = placed_body(self.low, self.high, self.tools, self.setting)
+            self.standing = body_of(self.low, self.high, self.placed)
         return self.standing

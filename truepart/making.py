@@ -5,7 +5,7 @@ from truepart.fronts import Front
 from truepart.inventory import is_copy
 from truepart.nametexts import name_text
 from truepart.sketches import solve_sketch
-from truepart.tools import half_tool, mirrored_tool, shifted_tool, sketch_tool
+from truepart.tools import half_tool, mirrored_tool, shifted_tool, tool_between
 from truepart.writing import named_places, spots
 
 GREATEST_NORMAL = 1000000000
@@ -66,11 +66,12 @@ def copy_tools(front, row):
     return mirrored_tools(front, row, tools)
 
 
-def check_lines(feature):
-    """Tells if the lines of a sketch are not determined."""
+def line_offsets(feature):
+    """The offsets of the lines of a sketch; tells if they are not determined."""
     state, found = solve_sketch(feature["lines"], feature["dimensions"])
     if state != "determined":
         raise Waits(f"{state}: " + ", ".join([str(part) for part in found]))
+    return found
 
 
 def sketch_tools(front, row):
@@ -78,9 +79,9 @@ def sketch_tools(front, row):
     feature = row["feature"]
     meant = means_by_place(row)
     base = base_at(front, feature["spot"], meant["spot"])
-    check_lines(feature)
+    offsets = line_offsets(feature)
     ends = [end_at(front, feature["w"], feature[word], meant[word]) for word in ("from", "to")]
-    return [sketch_tool(row["number"], feature, base, ends)[1]]
+    return [tool_between(row["number"], feature, offsets, base, ends)]
 
 
 def feature_tools(front, rows, at):

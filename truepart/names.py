@@ -1,10 +1,11 @@
 """Where names go in a body."""
 
-from truepart.cells import AXES, in_closure
+from truepart.cells import in_closure
 from truepart.corners import corner_points
 from truepart.edges import edge_pieces
 from truepart.faces import face_pieces
 from truepart.planes import along, cross
+from truepart.products import AXES
 
 
 def itself(name):

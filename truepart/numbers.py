@@ -17,9 +17,12 @@ def common(a, b):
 
 def fraction(number, divisor=1):
     """The fraction number / divisor of two integers."""
+    # Most numbers are whole, and then nothing is to be divided.
+    if divisor == 1:
+        return (number, 1)
     if divisor == 0:
         raise Nought("division by 0")
-    shared = common(number, divisor)
+    shared = gcd(number, divisor)
     if divisor < 0:
         shared = -shared
     return (number // shared, divisor // shared)

@@ -2,6 +2,8 @@
 
 from truepart.numbers import fraction
 
+AXES = ((1, 0, 0), (0, 1, 0), (0, 0, 1))
+
 
 def inner(a, b):
     """The product of two directions, an integer."""
@@ -11,11 +13,6 @@ def inner(a, b):
 def outer(a, b):
     """The cross product of two directions."""
     return (a[1] * b[2] - a[2] * b[1], a[2] * b[0] - a[0] * b[2], a[0] * b[1] - a[1] * b[0])
-
-
-def turned(a):
-    """The direction that points to the other side."""
-    return (-a[0], -a[1], -a[2])
 
 
 def sign_of(number):

@@ -1,27 +1,19 @@
 """Segments of the boundary of a body, and the flat places at them."""
 
+from itertools import combinations
+from truepart.grids import bits_of
 from truepart.planes import canonical, cross, dot
-from truepart.products import sign_of, turned
-from truepart.stars import replaced
+from truepart.products import sign_of
+from truepart.signs import replaced
 
 
-def signs_beside(normals, step):
-    """The signs that the places beside a line have at planes through it, behind a step from the line."""
-    return tuple([sign_of(dot(normal, step)) for normal in normals])
+def line_between(one, other):
+    """The direction of the line in which planes with two normals meet, and a side of the line.
 
-
-def leaves_at_line(normals):
-    """The direction of the line in which planes meet, and the parts of the planes at it.
-
-    The parts are told as pairs of the signs at the planes and the side of the line.
+    It is the side on which the places of the first plane are that are above the second one.
     """
-    direction = canonical(cross(normals[0], normals[1]))
-    found = []
-    for normal in normals:
-        step = cross(normal, direction)
-        found.append((signs_beside(normals, step), 1))
-        found.append((signs_beside(normals, turned(step)), -1))
-    return direction, found
+    direction = canonical(cross(one, other))
+    return direction, sign_of(dot(other, cross(one, direction)))
 
 
 def flats_with(body, origins):
@@ -30,26 +22,35 @@ def flats_with(body, origins):
     return [flat for flat in body.flats() if flat[3] in wanted]
 
 
+def segments_at(body, flat):
+    """The segments in the closure of a flat place: tuples (signs, vertices, index of another plane through it)."""
+    signs, points, plane = flat[:3]
+    known = [(point, body.planes_through(point)) for point in points]
+    found = []
+    for (a, first), (b, last) in combinations(known, 2):
+        # The flat place is convex; so its vertices have another plane in common if and only if they end a segment.
+        others = bits_of((first & last) ^ (1 << plane))
+        if others:
+            found.append((replaced(signs, others, [0] * len(others)), [a, b], others[0]))
+    return found
+
+
 def boundary_segments(body, flats):
     """The segments in the closure of flat places: tuples (signs, vertices, direction, flat places there).
 
     The flat places there are told as pairs of a flat place and its side of the line.
     """
-    known = {flat[0]: flat for flat in flats}
     lines = {}
-    found = []
-    for signs, points in body.cells:
-        # A cell has two vertices if and only if its dimension is 1.
-        if len(points) == 2:
-            on = tuple([k for k, sign in enumerate(signs) if sign == 0])
-            if on not in lines:
-                lines[on] = leaves_at_line([body.planes[k][0] for k in on])
-            direction, leaves = lines[on]
-            there = [(replaced(signs, on, leaf), side) for leaf, side in leaves]
-            at = [(known[place], side) for place, side in there if place in known]
-            if at:
-                found.append((signs, list(points), direction, at))
-    return found
+    found = {}
+    for flat in flats:
+        plane = flat[2]
+        for signs, points, other in segments_at(body, flat):
+            if (plane, other) not in lines:
+                lines[(plane, other)] = line_between(body.planes[plane][0], body.planes[other][0])
+            direction, side = lines[(plane, other)]
+            row = found.setdefault(signs, (signs, points, direction, []))
+            row[3].append((flat, side * flat[0][other]))
+    return [found[signs] for signs in sorted(found)]
 
 
 def narrowed(segments, flats):

@@ -66,19 +66,24 @@ def opposite_side(side):
     return (origin, normal, offset, not above)
 
 
-def sketch_tool(number, feature, base, ends):
-    """("made", tool) of a sketch, or what there is to say of its lines."""
+def tool_between(number, feature, offsets, base, ends):
+    """The tool of a sketch whose lines have these offsets."""
     lines = feature["lines"]
-    state, found = solve_sketch(lines, feature["dimensions"])
-    if state != "determined":
-        return (state, found)
-    sides = [line_side(number, feature, base, at, offset) for at, offset in enumerate(found)]
+    sides = [line_side(number, feature, base, at, offset) for at, offset in enumerate(offsets)]
     low = end_side((number, (), "low"), feature, base, ends[0], feature["from"][0] is not None)
     high = end_side((number, (), "high"), feature, base, ends[1], feature["to"][0] is not None)
     area = area_test(feature["area"], {line[0]: at for at, line in enumerate(lines)})
     many = len(lines)
     test = ("both", ("both", area, ("side", many)), ("side", many + 1))
-    return ("made", (feature["op"], sides + [low, opposite_side(high)], test))
+    return (feature["op"], sides + [low, opposite_side(high)], test)
+
+
+def sketch_tool(number, feature, base, ends):
+    """("made", tool) of a sketch, or what there is to say of its lines."""
+    state, found = solve_sketch(feature["lines"], feature["dimensions"])
+    if state != "determined":
+        return (state, found)
+    return ("made", tool_between(number, feature, found, base, ends))
 
 
 def half_tool(number, feature, offset):

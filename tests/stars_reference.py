@@ -1,9 +1,17 @@
-"""Stars: on which sides of the planes through a point the places close to it are."""
+"""The cells that planes make, found around each vertex on its own: slow, to compare with."""
 
 from itertools import combinations
-from truepart.products import inner, outer, sign_of, turned
+from truepart.cells import vertices
+from truepart.planes import sides
+from truepart.products import inner, outer, sign_of
+from truepart.signs import replaced
 
 SIGNS = (-1, 0, 1)
+
+
+def turned(a):
+    """The direction that points to the other side."""
+    return (-a[0], -a[1], -a[2])
 
 
 def after_step(signs, step, normals):
@@ -57,9 +65,28 @@ def star(normals):
     return [(0,) * len(normals)] + list(found_rays) + list(found_leaves) + list(solids(found_leaves, normals))
 
 
-def replaced(signs, places, others):
-    """The tuple of signs that has others at these places."""
-    row = list(signs)
-    for place, other in zip(places, others):
-        row[place] = other
-    return tuple(row)
+# The signs that points of the room can have at its sides, besides 0.
+ROOM_SIGNS = (1, -1, 1, -1, 1, -1)
+
+
+def room_star(walls_there):
+    """The signs of the places of the room close to a point, at planes through it.
+
+    The planes are told as pairs of a normal and the sign that the room allows there, 0 if it allows both.
+    """
+    allowed = [sign for _, sign in walls_there]
+    found = star([normal for normal, _ in walls_there])
+    return [signs for signs in found if all(a * b >= 0 for a, b in zip(signs, allowed))]
+
+
+def arrange(planes, low, high):
+    """The list of all cells as pairs of sides and vertices, in ascending order of the sides."""
+    allowed = (0,) * (len(planes) - len(ROOM_SIGNS)) + ROOM_SIGNS
+    found = {}
+    # Each cell has a vertex; so all cells are found around the vertices.
+    for point in vertices(planes, low, high):
+        signs = sides(planes, point)
+        there = [k for k, sign in enumerate(signs) if sign == 0]
+        for near in room_star([(planes[k][0], allowed[k]) for k in there]):
+            found.setdefault(replaced(signs, there, near), []).append(point)
+    return sorted(found.items())
